@@ -18,7 +18,7 @@ func tryAll(t *testing.T, name string, f binary, examples []example) {
 	t.Helper()
 	for _, x := range examples {
 		if got, e := f(x.a, x.b); got != x.want || e != x.e {
-			t.Errorf("%s(%v, %v) = %v, %d; want %v, %d", name, x.a, x.b, got, e, x.want, x.e)
+			t.Errorf("%s(%#v, %#v) = %#v, %d; want %#v, %d", name, x.a, x.b, got, e, x.want, x.e)
 		}
 	}
 }
@@ -110,10 +110,10 @@ func TestLeastAndMost(t *testing.T) {
 		{[]api.Value{strange}, whole(5), whole(5), 0}, {[]api.Value{strange, whole(5)}, whole(5), whole(5), 0}, {[]api.Value{strange, dec(1)}, dec(1), dec(50000), 0},
 	} {
 		if got, e := Least(x.l...); got != x.least || e != x.e {
-			t.Errorf("Least(%v) = %v, %d; want %v, %d", x.l, got, e, x.least, x.e)
+			t.Errorf("Least(%#v) = %#v, %d; want %#v, %d", x.l, got, e, x.least, x.e)
 		}
 		if got, e := Most(x.l...); got != x.most || e != x.e {
-			t.Errorf("Most(%v) = %v, %d; want %v, %d", x.l, got, e, x.most, x.e)
+			t.Errorf("Most(%#v) = %#v, %d; want %#v, %d", x.l, got, e, x.most, x.e)
 		}
 	}
 }
@@ -225,7 +225,7 @@ func TestArithmeticAgainstModel(t *testing.T) {
 			for _, b := range all() {
 				want, wantE := modelReckon(a, b, c.ofInts, c.ofDecs)
 				if got, e := c.f(a, b); got != want || e != wantE {
-					t.Errorf("%s(%v, %v) = %v, %d; want %v, %d", c.name, a, b, got, e, want, wantE)
+					t.Errorf("%s(%#v, %#v) = %#v, %d; want %#v, %d", c.name, a, b, got, e, want, wantE)
 				}
 			}
 		}
@@ -233,7 +233,7 @@ func TestArithmeticAgainstModel(t *testing.T) {
 	for _, a := range all() {
 		want, wantE := modelReckon(whole(0), a, modelSub, modelSub)
 		if got, e := Neg(a); got != want || e != wantE {
-			t.Errorf("Neg(%v) = %v, %d; want %v, %d", a, got, e, want, wantE)
+			t.Errorf("Neg(%#v) = %#v, %d; want %#v, %d", a, got, e, want, wantE)
 		}
 	}
 }
@@ -255,7 +255,7 @@ func holdThree(t *testing.T, name string, f func(l ...api.Value) (api.Value, api
 	t.Helper()
 	want, wantE := modelOfMany(m, l)
 	if got, e := f(l...); got != want || e != wantE {
-		t.Errorf("%s(%v) = %v, %d; want %v, %d", name, l, got, e, want, wantE)
+		t.Errorf("%s(%#v) = %#v, %d; want %#v, %d", name, l, got, e, want, wantE)
 	}
 }
 

@@ -31,10 +31,10 @@ func TestAllAndAny(t *testing.T) {
 		{[]api.Value{truth(2)}, yes, no}, {[]api.Value{truth(-1), null()}, null(), null()}, {[]api.Value{truth(2), no}, no, no}, {[]api.Value{truth(2), yes}, yes, yes},
 	} {
 		if got := All(x.l...); got != x.all {
-			t.Errorf("All(%v) = %v, want %v", x.l, got, x.all)
+			t.Errorf("All(%#v) = %#v, want %#v", x.l, got, x.all)
 		}
 		if got := Any(x.l...); got != x.any {
-			t.Errorf("Any(%v) = %v, want %v", x.l, got, x.any)
+			t.Errorf("Any(%#v) = %#v, want %#v", x.l, got, x.any)
 		}
 	}
 }
@@ -45,10 +45,10 @@ func TestNot(t *testing.T) {
 	}
 	for _, v := range all() {
 		if v.Kind != api.Bool && Not(v) != null() {
-			t.Errorf("Not(%v) = %v, want Null", v, Not(v))
+			t.Errorf("Not(%#v) = %#v, want Null", v, Not(v))
 		}
 		if v.Kind == api.Bool && Not(v) != truth(0) && Not(v) != truth(1) {
-			t.Errorf("Not(%v) = %v, want a Bool that may be", v, Not(v))
+			t.Errorf("Not(%#v) = %#v, want a Bool that may be", v, Not(v))
 		}
 	}
 }
@@ -75,10 +75,10 @@ func TestAllAndAnyAgainstModel(t *testing.T) {
 			for _, c := range []api.Value{truth(0), truth(1), null(), whole(1), truth(2)} {
 				three := []api.Value{a, b, c}
 				if got, want := All(three...), modelSettled(three, 0); got != want {
-					t.Errorf("All(%v) = %v, want %v", three, got, want)
+					t.Errorf("All(%#v) = %#v, want %#v", three, got, want)
 				}
 				if got, want := Any(three...), modelSettled(three, 1); got != want {
-					t.Errorf("Any(%v) = %v, want %v", three, got, want)
+					t.Errorf("Any(%#v) = %#v, want %#v", three, got, want)
 				}
 			}
 		}
@@ -91,10 +91,10 @@ func TestAllAndAnyWithNot(t *testing.T) {
 	for _, a := range l {
 		for _, b := range l {
 			if All(a, b) != Not(Any(Not(a), Not(b))) || Any(a, b) != Not(All(Not(a), Not(b))) {
-				t.Errorf("All, Any of %v, %v are not each other's with Not", a, b)
+				t.Errorf("All, Any of %#v, %#v are not each other's with Not", a, b)
 			}
 			if All(a, b) != All(b, a) || Any(a, b) != Any(b, a) {
-				t.Errorf("All, Any of %v, %v hang on the order", a, b)
+				t.Errorf("All, Any of %#v, %#v hang on the order", a, b)
 			}
 		}
 	}

@@ -280,7 +280,7 @@ func (m maker) program() string {
 // P13.1, P13.2: what is read of texts made by chance has the model's text.
 func TestTextsByChance(t *testing.T) {
 	m := maker{rand.New(rand.NewSource(13))}
-	for range 1500 {
+	for range 800 {
 		s := m.program()
 		if fault := holdModel(t, read(t, s)); fault != "" && len(s) < 40000 {
 			t.Fatalf("what is read of %.2000q has no text: %s", s, fault)
@@ -363,7 +363,7 @@ func TestEachPartChanged(t *testing.T) {
 func TestChangesByChance(t *testing.T) {
 	m := maker{rand.New(rand.NewSource(14))}
 	met := map[bool]int{}
-	for range 250 {
+	for range 150 {
 		s := m.program()
 		for range 12 {
 			p := read(t, s)
@@ -376,7 +376,7 @@ func TestChangesByChance(t *testing.T) {
 			met[holdModel(t, p) == ""]++
 		}
 	}
-	if met[true] < 300 || met[false] < 300 {
+	if met[true] < 200 || met[false] < 200 {
 		t.Errorf("programs with a text, and without: %v", met)
 	}
 }
@@ -428,7 +428,7 @@ func TestAnyPrograms(t *testing.T) {
 // P13.1: places change nothing, wrong, missing or too many ones.
 func TestPlaces(t *testing.T) {
 	m := maker{rand.New(rand.NewSource(16))}
-	for n := range 300 {
+	for n := range 150 {
 		p := full(t)
 		if n > 0 {
 			p = read(t, m.program())

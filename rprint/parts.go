@@ -5,71 +5,72 @@ import (
 
 	"witan/api"
 	"witan/eprint"
-	"witan/template"
+	"witan/tell"
 	"witan/unary"
 )
 
-func program(p api.Program) part {
-	return all(listed(p.Templates, "", templateLine), listed(p.Rules, "", ruleLines))
+func program(p api.Program) tell.Part {
+	return tell.All(tell.Listed(p.Templates, "", templateLine), tell.Listed(p.Rules, "", ruleLines))
 }
 
-func templateLine(t api.Template) part {
-	slot := func(s api.Slot) part { return said(" ", s.Name, ":", template.KindName(s.Kind)) }
-	return line(said("template ", t.Name), listed(t.Slots, "", slot))
+func templateLine(t api.Template) tell.Part {
+	return tell.Line(tell.Said("template ", t.Name), tell.Slots(t.Slots))
 }
 
-func ruleLines(r api.Rule) part {
-	return all(
-		line(said("rule ", r.Name), salience(r.Salience)),
-		line(said("when")),
-		listed(r.Conds, "", func(c api.Cond) part { return line(said("  "), cond(c)) }),
-		line(said("then")),
-		listed(r.Acts, "", func(a api.Action) part { return line(said("  "), action(a)) }),
-		line(said("end")),
+func ruleLines(r api.Rule) tell.Part {
+	return tell.All(
+		tell.Line(tell.Said("rule ", r.Name), salience(r.Salience)),
+		tell.Line(tell.Said("when")),
+		tell.Listed(r.Conds, "", func(c api.Cond) tell.Part { return tell.Line(tell.Said("  "), cond(c)) }),
+		tell.Line(tell.Said("then")),
+		tell.Listed(r.Acts, "", func(a api.Action) tell.Part { return tell.Line(tell.Said("  "), action(a)) }),
+		tell.Line(tell.Said("end")),
 	)
 }
 
 // salience says nothing of 0.
-func salience(n int) part {
+func salience(n int) tell.Part {
 	if n == 0 {
-		return said()
+		return tell.Said()
 	}
-	return said(" ", strconv.Itoa(n))
+	return tell.Said(" ", strconv.Itoa(n))
 }
 
 // cond leaves it to the reader whether there are as many patterns as the kind
 // has, and whether a fact's name may stand ahead of them there.
-func cond(c api.Cond) part {
-	patterns := listed(c.Patterns, " ", pattern)
+func cond(c api.Cond) tell.Part {
+	patterns := tell.Listed(c.Patterns, " ", pattern)
 	switch c.Kind {
 	case api.CondIs:
 		return patterns
 	case api.CondNot:
-		return all(said("not "), patterns)
+		return tell.All(tell.Said("not "), patterns)
 	case api.CondExists:
-		return all(said("exists "), patterns)
+		return tell.All(tell.Said("exists "), patterns)
 	case api.CondNone:
-		return all(said("not ("), patterns, said(")"))
+		return tell.All(tell.Said("not ("), patterns, tell.Said(")"))
 	case api.CondTest:
-		return all(said("test "), told(eprint.Text(c.Test)))
+		return tell.All(tell.Said("test "), tell.Asked(eprint.Text(c.Test)))
 	}
-	return told("", api.ErrForm)
+	return tell.Asked("", api.ErrForm)
 }
 
-func pattern(p api.Pattern) part {
-	slot := func(s api.SlotTest) part { return all(said(s.Slot, ": "), told(unary.Text(s.Test))) }
-	return all(factName(p.Name), said(p.T, "("), listed(p.Slots, ", ", slot), said(")"))
+func pattern(p api.Pattern) tell.Part {
+	slot := func(s api.SlotTest) tell.Part {
+		return tell.All(tell.Said(s.Slot, ": "), tell.Asked(unary.Text(s.Test)))
+	}
+	return tell.All(factName(p.Name), tell.Said(p.T, "("), tell.Listed(p.Slots, ", ", slot), tell.Said(")"))
 }
 
 // factName says nothing of a fact without a name.
-func factName(name string) part {
+func factName(name string) tell.Part {
 	if name == "" {
-		return said()
+		return tell.Said()
 	}
-	return said(name, ": ")
+	return tell.Said(name, ": ")
 }
 
-func action(a api.Action) part {
+func action(a api.Action) tell.Part {
 	switch a.Kind {
 	case api.ActAssert:
 		return sets("assert ", a)
@@ -78,15 +79,17 @@ func action(a api.Action) part {
 	case api.ActModify:
 		return sets("modify ", a)
 	case api.ActRetract:
-		return said("retract ", a.Name)
+		return tell.Said("retract ", a.Name)
 	case api.ActHalt:
-		return said("halt")
+		return tell.Said("halt")
 	}
-	return told("", api.ErrForm)
+	return tell.Asked("", api.ErrForm)
 }
 
 // sets is an action that sets slots, behind the word with which it begins.
-func sets(word string, a api.Action) part {
-	set := func(s api.Set) part { return all(said(s.Slot, ": "), told(eprint.Text(s.E))) }
-	return all(said(word, a.Name, "("), listed(a.Sets, ", ", set), said(")"))
+func sets(word string, a api.Action) tell.Part {
+	set := func(s api.Set) tell.Part {
+		return tell.All(tell.Said(s.Slot, ": "), tell.Asked(eprint.Text(s.E)))
+	}
+	return tell.All(tell.Said(word, a.Name, "("), tell.Listed(a.Sets, ", ", set), tell.Said(")"))
 }

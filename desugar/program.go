@@ -4,6 +4,7 @@ import (
 	"strconv"
 
 	"witan/api"
+	"witan/own"
 )
 
 // The names of a program's templates, and their places in it.
@@ -59,7 +60,7 @@ func ruleOf(t api.Table, i int) api.Rule {
 func inputsPass(tests []api.Tests) api.Cond {
 	p := api.Pattern{T: inputsName}
 	for i, name := range numbered("i", len(tests)) {
-		p.Slots = append(p.Slots, api.SlotTest{Slot: name, Test: ownedTests(tests[i])})
+		p.Slots = append(p.Slots, api.SlotTest{Slot: name, Test: own.Tests(tests[i])})
 	}
 	return api.Cond{Kind: api.CondIs, Patterns: []api.Pattern{p}}
 }
@@ -80,7 +81,7 @@ func assertHit(number int, outs []api.Expr) api.Action {
 	a := api.Action{Kind: api.ActAssert, Name: hitName}
 	a.Sets = append(a.Sets, api.Set{Slot: "n", E: api.Expr{{Op: api.OpLit, V: n}}})
 	for i, name := range numbered("o", len(outs)) {
-		a.Sets = append(a.Sets, api.Set{Slot: name, E: ownedExpr(outs[i])})
+		a.Sets = append(a.Sets, api.Set{Slot: name, E: own.Expr(outs[i])})
 	}
 	return a
 }

@@ -21,17 +21,18 @@ func Templates(l []api.Template) []api.Template {
 func Cond(c api.Cond) api.Cond {
 	c.Patterns, c.Test = List(c.Patterns), Expr(c.Test)
 	for i, p := range c.Patterns {
-		c.Patterns[i].Slots = slotTests(p.Slots)
+		c.Patterns[i] = Pattern(p)
 	}
 	return c
 }
 
-func slotTests(l []api.SlotTest) []api.SlotTest {
-	l = List(l)
-	for i, s := range l {
-		l[i].Test = Tests(s.Test)
+// Pattern tells a pattern, with slots' tests of its own.
+func Pattern(p api.Pattern) api.Pattern {
+	p.Slots = List(p.Slots)
+	for i, s := range p.Slots {
+		p.Slots[i].Test = Tests(s.Test)
 	}
-	return l
+	return p
 }
 
 // Tests tells tests, each with expressions of its own.

@@ -59,6 +59,7 @@ func TestCopies(t *testing.T) {
 	hold(t, "List", []int{1, 2}, List)
 	hold(t, "Templates", []api.Template{{Name: "a", Slots: []api.Slot{{Name: "x", Kind: api.Int}, {Name: "y", Kind: api.Sym}}}, {Name: "b"}}, Templates)
 	hold(t, "Cond", cond(), Cond)
+	hold(t, "Pattern", cond().Patterns[0], Pattern)
 	hold(t, "Tests", cond().Patterns[0].Slots[0].Test, Tests)
 	hold(t, "Expr", cond().Test, Expr)
 }
@@ -73,6 +74,9 @@ func TestCopiesOfNothing(t *testing.T) {
 	}
 	if c := Cond(api.Cond{}); !reflect.DeepEqual(c, api.Cond{}) {
 		t.Error("Cond:", c)
+	}
+	if p := Pattern(api.Pattern{}); !reflect.DeepEqual(p, api.Pattern{}) {
+		t.Error("Pattern:", p)
 	}
 	if l := Templates(nil); l != nil {
 		t.Error("Templates:", l)
